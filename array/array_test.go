@@ -8,6 +8,7 @@ import (
 	"testing"
 
 	"scrim/api"
+	"scrim/sample"
 )
 
 const all = math.MaxUint64
@@ -127,48 +128,7 @@ func oneAt(place int, l uint64) func() uint64 {
 	}
 }
 
-// chance is numbers, in a fixed order, that look as if there were none.
-func chance(seed uint64) func(n int) int {
-	return func(n int) int {
-		seed = seed*6364136223846793005 + 1442695040888963407
-		return int(seed >> 33 % uint64(n))
-	}
-}
-
-// drawn is a right array with labels, in which there are no more Boxes within one another than nest.
-func drawn(draw func(int) int, nest int) api.Array {
-	shapes := [][]int{nil, nil, {0}, {1}, {2}, {3}, {2, 2}, {1, 3}, {0, 2}, {1, 1, 2}}
-	a := api.Array{S: uint64(draw(16)), Shape: shapes[draw(len(shapes))]}
-	cells := 1
-	for _, n := range a.Shape {
-		cells *= n
-	}
-	for range cells {
-		c := number(uint32(draw(4)))
-		if kind := draw(4); kind == 1 {
-			c = char(65 + draw(3))
-		} else if kind == 2 {
-			c = api.Cell{N: api.Num{Neg: draw(2) == 0, Top: []uint32{5, 1}, Bot: []uint32{7}}}
-		} else if kind == 3 && nest > 0 {
-			c = box(drawn(draw, nest-1))
-			if in := c.In[0]; len(in.Shape) == 0 && in.Cells[0].Kind != 2 {
-				c = in.Cells[0]
-			}
-		}
-		c.L = uint64(draw(16))
-		a.Cells = append(a.Cells, c)
-	}
-	return a
-}
-
-func someDrawn() []api.Array {
-	draw := chance(8)
-	var l []api.Array
-	for range 300 {
-		l = append(l, drawn(draw, 3))
-	}
-	return l
-}
+func someDrawn() []api.Array { return sample.ManyDrawn(8, 300, 3) }
 
 // rightOnes are arrays that may be, written by hand.
 func rightOnes() []api.Array {
@@ -711,92 +671,6 @@ func calls() map[string]func(a api.Array) api.Array {
 	}
 }
 
-// list is one of an array's lists, up to its capacity.
-type list struct {
-	read  func() string
-	write func()
-}
-
-func listOf[T any](l []T, junk T, look func(T) string) list {
-	l = l[:cap(l)]
-	read := func() string {
-		var out strings.Builder
-		for _, x := range l {
-			out.WriteString(look(x) + ";")
-		}
-		return out.String()
-	}
-	return list{read: read, write: func() {
-		for i := range l {
-			l[i] = junk
-		}
-	}}
-}
-
-// lists are all lists of an array, each without what lies in it.
-func lists(a api.Array) []list {
-	l := []list{
-		listOf(a.Shape, -77, func(n int) string { return fmt.Sprint(n) }),
-		listOf(a.Cells, api.Cell{L: 7777, Kind: 77}, func(c api.Cell) string {
-			return fmt.Sprint(c.L, c.Kind, c.N.Neg, len(c.N.Top), len(c.N.Bot), c.C, len(c.In))
-		}),
-	}
-	for _, c := range a.Cells {
-		for _, limbs := range [][]uint32{c.N.Top, c.N.Bot} {
-			l = append(l, listOf(limbs, 7777777, func(n uint32) string { return fmt.Sprint(n) }))
-		}
-		l = append(l, listOf(c.In, api.Array{S: 7777}, func(a api.Array) string { return fmt.Sprint(a.S, len(a.Shape), len(a.Cells)) }))
-		for _, in := range c.In {
-			l = append(l, lists(in)...)
-		}
-	}
-	return l
-}
-
-func read(l []list) []string {
-	var texts []string
-	for _, x := range l {
-		texts = append(texts, x.read())
-	}
-	return texts
-}
-
-func room[T any](l []T, behind T) []T { return append(slices.Clone(l), behind, behind)[:len(l)] }
-
-// roomy is an array whose lists have more behind their length.
-func roomy(a api.Array) api.Array {
-	b := api.Array{S: a.S, Shape: room(a.Shape, 4), Cells: room(a.Cells, marked(char('!'), 64))}
-	for i, c := range b.Cells {
-		c.N = api.Num{Neg: c.N.Neg, Top: room(c.N.Top, 9), Bot: room(c.N.Bot, 8)}
-		c.In = room(c.In, row(number(9)))
-		for j := range c.In {
-			c.In[j] = roomy(c.In[j])
-		}
-		b.Cells[i] = c
-	}
-	return b
-}
-
-// sharing tells whether what is written to one of an answer's lists is to be seen in another one, or in what was handed in.
-func sharing(call func(api.Array) api.Array, in api.Array) string {
-	handed := lists(in)
-	before := read(handed)
-	for i := range lists(call(in)) {
-		answer := lists(call(in))
-		want := read(answer)
-		answer[i].write()
-		for j, text := range read(answer) {
-			if j != i && text != want[j] {
-				return "two lists of an answer share memory"
-			}
-		}
-	}
-	if !slices.Equal(read(handed), before) {
-		return "what was handed in is changed, or shared"
-	}
-	return ""
-}
-
 // R4 and R5: what is handed in stays as it is, what lies behind it is not read, answers are new memory, and come again.
 func TestMemory(t *testing.T) {
 	limbs := []uint32{1}
@@ -808,15 +682,15 @@ func TestMemory(t *testing.T) {
 			continue
 		}
 		for name, call := range calls() {
-			in := roomy(a)
+			in := sample.Roomy(a)
 			want := spelt(call(a), true)
 			if got := spelt(call(in), true); got != want {
 				t.Error(name, a, "what lies behind is read", got)
 			}
-			if fault := sharing(call, in); fault != "" {
+			if fault := sample.Sharing(call, in); fault != "" {
 				t.Error(name, a, fault)
 			}
-			if fault := sharing(call, a); fault != "" {
+			if fault := sample.Sharing(call, a); fault != "" {
 				t.Error(name, a, fault)
 			}
 			if got := spelt(call(in), true); got != want {
