@@ -1,6 +1,8 @@
 package sample
 
 import (
+	"slices"
+
 	"scrim/api"
 	"scrim/ratio"
 )
@@ -55,4 +57,36 @@ func ManyDrawn(seed uint64, n, nest int) []api.Array {
 		l[i] = Drawn(draw, nest)
 	}
 	return l
+}
+
+// Disguised tells a right array that is alike to an observer: what it does not see is drawn anew, under a label that it does not see.
+func Disguised(draw func(int) int, a api.Array, observer uint64) api.Array {
+	if a.S&^observer != 0 {
+		b := Drawn(draw, 1)
+		b.S |= a.S
+		return b
+	}
+	b := api.Array{S: a.S, Shape: slices.Clone(a.Shape)}
+	for _, c := range a.Cells {
+		b.Cells = append(b.Cells, disguisedCell(draw, c, observer))
+	}
+	return b
+}
+
+func disguisedCell(draw func(int) int, c api.Cell, observer uint64) api.Cell {
+	if c.L&^observer != 0 {
+		d := drawnCell(draw, 1)
+		d.L = c.L | uint64(draw(16))
+		return d
+	}
+	if c.Kind != api.Box {
+		return c
+	}
+	in := Disguised(draw, c.In[0], observer)
+	if len(in.Shape) == 0 && in.Cells[0].Kind != api.Box {
+		// No Box may have this; as its cell is none that is seen, or in an array that is not, it may be one.
+		bare := in.Cells[0]
+		in.Cells[0] = api.Cell{L: bare.L, Kind: api.Box, In: []api.Array{{Shape: []int{1}, Cells: []api.Cell{bare}}}}
+	}
+	return api.Cell{L: c.L, Kind: api.Box, In: []api.Array{in}}
 }

@@ -7,6 +7,8 @@ import (
 	"testing"
 
 	"scrim/api"
+	"scrim/array"
+	"scrim/view"
 )
 
 func number(n uint32) api.Cell { return api.Cell{N: api.Num{Top: []uint32{n}, Bot: []uint32{1}}} }
@@ -91,6 +93,30 @@ func TestDrawn(t *testing.T) {
 	}
 	if len(texts) < 200 {
 		t.Error(len(texts))
+	}
+}
+
+// What is disguised is right, and alike to the observer; all that it does not see may be another thing, nothing else is.
+func TestDisguised(t *testing.T) {
+	draw := Chance(4)
+	others := 0
+	l := append(ManyDrawn(5, 200, 3), Arrays("[|[|(1 2)@4]]", "[|[|(1 2)]^4]", "([|(1 2)@4]@2)^1", "[|((1 2)@4)]")...)
+	for _, a := range l {
+		for observer := range uint64(16) {
+			b := Disguised(draw, a, observer)
+			if !array.Right(b) || !view.Alike(a, b, observer) {
+				t.Error(Text(a), "is, disguised to", observer, Text(b))
+			}
+			if !array.Match(a, b) {
+				others++
+			}
+			if observer == 15 && !equal(a, b) {
+				t.Error(Text(a), "is all seen, but becomes", Text(b))
+			}
+		}
+	}
+	if others < 1000 {
+		t.Error("too few are others", others)
 	}
 }
 
