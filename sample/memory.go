@@ -46,6 +46,25 @@ func Sharing(call func(api.Array) api.Array, in api.Array) string {
 	}
 }
 
+// Memory tells what is wrong with a call's memory: what it answers must share none (Sharing), come again, and not hang on
+// what lies behind a list's length. Nothing is wrong, if the text is empty.
+func Memory(call func(api.Array) api.Array, a api.Array) string {
+	in := Roomy(a)
+	want := Text(call(a))
+	if Text(call(in)) != want {
+		return "what lies behind a list is read"
+	}
+	for _, handed := range []api.Array{a, in} {
+		if fault := Sharing(call, handed); fault != "" {
+			return fault
+		}
+		if Text(call(handed)) != want {
+			return "what is told again is another one"
+		}
+	}
+	return ""
+}
+
 // list is one of an array's lists, up to its capacity.
 type list struct {
 	read  func() string

@@ -153,3 +153,30 @@ func TestSharing(t *testing.T) {
 		t.Error(fault)
 	}
 }
+
+// Calls that look behind a list's length, share memory, or don't tell the same again, are told.
+func TestMemory(t *testing.T) {
+	in := Array("(1 ((2 'x) 3) {0 0 1/1})")
+	behind := func(a api.Array) api.Array { return api.Array{Shape: []int{cap(a.Cells)}} }
+	shared := func(a api.Array) api.Array { return api.Array{Shape: a.Shape} }
+	calls := 0
+	counted := func(api.Array) api.Array {
+		calls++
+		return api.Array{S: uint64(calls)}
+	}
+	var told api.Array
+	kept := func(a api.Array) api.Array {
+		if told.Shape == nil {
+			told = Roomy(a)
+		}
+		return told
+	}
+	for i, call := range []func(api.Array) api.Array{behind, shared, counted, kept} {
+		if Memory(call, in) == "" {
+			t.Error("nothing is wrong", i)
+		}
+	}
+	if fault := Memory(Roomy, in); fault != "" {
+		t.Error(fault)
+	}
+}

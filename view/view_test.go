@@ -445,19 +445,8 @@ func TestMemory(t *testing.T) {
 				return api.Array{}
 			}
 			for i, call := range []func(api.Array) api.Array{hide, cell, alike} {
-				in := sample.Roomy(a)
-				want := sample.Text(call(a))
-				if got := sample.Text(call(in)); got != want {
-					t.Error(i, sample.Text(a), observer, got)
-				}
-				if fault := sample.Sharing(call, in); fault != "" {
+				if fault := sample.Memory(call, a); fault != "" {
 					t.Error(i, sample.Text(a), observer, fault)
-				}
-				if fault := sample.Sharing(call, a); fault != "" {
-					t.Error(i, sample.Text(a), observer, fault)
-				}
-				if got := sample.Text(call(in)); got != want {
-					t.Error(i, sample.Text(a), observer, "another answer", got)
 				}
 			}
 		}
